@@ -1,0 +1,1 @@
+"""Splicedfilms: films spliced by rules."""

@@ -1,0 +1,105 @@
+"""The words of the document done slowly: what the tests compare the program with."""
+
+import itertools
+import random
+
+
+def sites(left, right, film):
+    """Return all cuts between `left` and `right`."""
+    return [cut for cut in range(len(film) + 1) if film[:cut].endswith(left) and film[cut:].startswith(right)]
+
+
+def all_splices(rules, film, other):
+    """Return all splices of two films."""
+    return [
+        film[:cut] + other[place:]
+        for front, behind, ahead, back in rules
+        for cut in sites(front, behind, film)
+        for place in sites(ahead, back, other)
+    ]
+
+
+def fewest_by_rounds(strips, rules, most, cap=None):
+    """Return {film: fewest splices} of all films of at most so many splices, and the number of rounds that are whole.
+
+    A round is not begun if there are more films than the cap.
+    """
+    fewest = {strip: 0 for strip in strips}
+    rounds = [sorted(fewest)]
+    while len(rounds) <= most and (cap is None or len(fewest) <= cap):
+        fresh = set()
+        for at in range(len(rounds)):
+            for film, other in itertools.product(rounds[at], rounds[-1 - at]):
+                fresh.update(all_splices(rules, film, other))
+        fresh.difference_update(fewest)
+        fewest.update({film: len(rounds) for film in fresh})
+        rounds.append(sorted(fresh))
+    return fewest, len(rounds) - 1
+
+
+def all_films(strips, rules):
+    """Return {film: fewest splices} of a box by which only few films come about."""
+    most = 1
+    while True:
+        fewest, _ = fewest_by_rounds(strips, rules, most)
+        if most > 2 * max(fewest.values(), default=0):
+            return fewest
+        most += 1
+
+
+def film_told(strips, rules, told):
+    """Return the film of a tree, `None` if it tells none."""
+    if told[0] == "strip":
+        return strips[told[1]] if 0 <= told[1] < len(strips) else None
+    _, index, cut, place, one, two = told
+    film, other = film_told(strips, rules, one), film_told(strips, rules, two)
+    if film is None or other is None or not 0 <= index < len(rules):
+        return None
+    front, behind, ahead, back = rules[index]
+    if cut not in sites(front, behind, film) or place not in sites(ahead, back, other):
+        return None
+    return film[:cut] + other[place:]
+
+
+def count_splices(told):
+    """Return the number of splices of a tree."""
+    return 0 if told[0] == "strip" else 1 + count_splices(told[4]) + count_splices(told[5])
+
+
+def in_order(films):
+    """Return films in their order."""
+    return sorted(films, key=lambda film: (len(film), film))
+
+
+def texts(pictures, length):
+    """Return all films of at most a length."""
+    return ["".join(row) for size in range(1, length + 1) for row in itertools.product(pictures, repeat=size)]
+
+
+def boxes_by_chance(seed, number):
+    """Return strips and rules of small boxes, most of whose rules fit their strips; always the same ones."""
+    chance = random.Random(seed)
+    boxes = []
+    for _ in range(number):
+        pictures = "abc"[:chance.randint(1, 3)]
+        strips = [_text(chance, pictures, 1, 5) for _ in range(chance.randint(1, 4))]
+        rules = [_rule(chance, pictures, strips) for _ in range(chance.randint(0, 3))]
+        boxes.append((strips, rules))
+    return boxes
+
+
+def _text(chance, pictures, least, most):
+    return "".join(chance.choice(pictures) for _ in range(chance.randint(least, most)))
+
+
+def _rule(chance, pictures, strips):
+    if chance.random() < 0.2:
+        return tuple(_text(chance, pictures, least, 2) for least in (1, 0, 0, 1))
+    one, two = chance.choice(strips), chance.choice(strips)
+    cut, place = chance.randint(1, len(one)), chance.randint(0, len(two) - 1)
+    return (
+        one[max(0, cut - chance.randint(1, 2)):cut],
+        one[cut:cut + chance.randint(0, 2)],
+        two[max(0, place - chance.randint(0, 2)):place],
+        two[place:place + chance.randint(1, 2)],
+    )

@@ -1,0 +1,49 @@
+"""The names of the interface: where each one is defined, and its arguments."""
+
+import importlib
+import inspect
+import unittest
+
+FUNCTIONS = {
+    "boxes": {
+        "spliced": ["rule", "film", "cut", "other", "place"], "cuts": ["rule", "film"], "places": ["rule", "film"],
+    },
+    "films": {
+        "comes": ["box", "film"], "tree": ["box", "film"], "film_of": ["box", "told"], "splices": ["told"],
+        "judge_tree": ["box", "film", "told"], "within": ["box", "most"],
+    },
+}
+METHODS = {
+    "__init__": ["self", "strips", "rules"], "pictures": ["self"], "with_strip": ["self", "strip"],
+    "with_rule": ["self", "rule"], "without_strip": ["self", "index"], "without_rule": ["self", "index"],
+    "__add__": ["self", "other"], "__len__": ["self"], "__eq__": ["self", "other"],
+}
+
+
+class Interface(unittest.TestCase):
+    def check(self, thing, module, arguments):
+        self.assertTrue(inspect.isfunction(thing))
+        self.assertEqual(thing.__module__, module)
+        parameters = list(inspect.signature(thing).parameters.values())
+        self.assertEqual([parameter.name for parameter in parameters], arguments)
+        for parameter in parameters:
+            self.assertEqual((parameter.kind, parameter.default),
+                             (inspect.Parameter.POSITIONAL_OR_KEYWORD, inspect.Parameter.empty))
+
+    def test_functions(self):
+        for name, functions in FUNCTIONS.items():
+            module = importlib.import_module("splicedfilms." + name)
+            for function, arguments in functions.items():
+                self.check(getattr(module, function), module.__name__, arguments)
+
+    def test_the_class_of_boxes(self):
+        module = importlib.import_module("splicedfilms.boxes")
+        self.assertEqual(module.Box.__module__, module.__name__)
+        for method, arguments in METHODS.items():
+            self.check(vars(module.Box)[method], module.__name__, arguments)
+        for name in ("strips", "rules"):
+            self.assertIsInstance(vars(module.Box)[name], property)
+
+
+if __name__ == "__main__":
+    unittest.main()
