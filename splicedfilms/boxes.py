@@ -2,6 +2,7 @@
 
 from splicedfilms.checks import check_film, check_rule
 from splicedfilms.errors import NoSplice, UnknownRule, UnknownStrip
+from splicedfilms.states import table_of_web
 from splicedfilms.webs import Web
 
 
@@ -16,6 +17,7 @@ class Box:
         self._strips = list(strips)
         self._rules = list(rules)
         self._web = None
+        self._table = None
 
     @property
     def strips(self):
@@ -57,6 +59,12 @@ class Box:
         if self._web is None:
             self._web = Web(self._strips, self._rules)
         return self._web
+
+    def kept_table(self):
+        """Return the table of the box, kept like its web: it is only read, and no caller of the program gets it."""
+        if self._table is None:
+            self._table = table_of_web(self.web(), self.pictures())
+        return self._table
 
     def __add__(self, other):
         if not isinstance(other, Box):

@@ -1,6 +1,6 @@
-"""What is a film, a piece and a rule, and the errors of what is none."""
+"""What is a film, a piece, a rule and a table, and the errors of what is none."""
 
-from splicedfilms.errors import InvalidFilm, InvalidPiece, InvalidRule
+from splicedfilms.errors import InvalidFilm, InvalidNumber, InvalidPiece, InvalidRule, InvalidTable
 
 PICTURES = "abcdefghijklmnopqrstuvwxyz"
 
@@ -35,3 +35,45 @@ def check_rule(rule):
         check_piece(piece)
     if rule[0] == "" or rule[3] == "":
         raise InvalidRule(rule)
+
+
+def check_number(number, least):
+    """Raise `InvalidNumber` if a number is too small."""
+    if number < least:
+        raise InvalidNumber(number)
+
+
+def is_table(told):
+    """Tell whether a tuple is a table."""
+    if len(told) != 3:
+        return False
+    pictures, rows, ends = told
+    if not is_piece(pictures) or not _ascends(pictures) or len(rows) == 0:
+        return False
+    for row in rows:
+        if len(row) != len(pictures) or not _are_states(row, rows):
+            return False
+    return _ascends(ends) and _are_states(ends, rows)
+
+
+def _ascends(things):
+    return all([low < high for low, high in zip(things, things[1:])])
+
+
+def _are_states(numbers, rows):
+    return all([0 <= number < len(rows) for number in numbers])
+
+
+def check_table(told):
+    """Raise `InvalidTable` if a tuple is no table."""
+    if not is_table(told):
+        raise InvalidTable(copied(told))
+
+
+def copied(told):
+    """Return a thing with new lists in it, each of which stands in one place alone."""
+    if isinstance(told, list):
+        return [copied(part) for part in told]
+    if isinstance(told, tuple):
+        return tuple([copied(part) for part in told])
+    return told

@@ -1,8 +1,8 @@
 """Which films come about by a box, and the trees that tell how."""
 
 from splicedfilms.boxes import cuts, places, spliced
-from splicedfilms.checks import check_film
-from splicedfilms.errors import InvalidNumber, NoSplice, UnknownRule, UnknownStrip
+from splicedfilms.checks import check_film, check_number
+from splicedfilms.errors import NoSplice, UnknownRule, UnknownStrip
 from splicedfilms.webs import reads, seam_plans
 
 
@@ -96,8 +96,7 @@ def judge_tree(box, film, told):
 
 def within(box, most):
     """Return the list of the films that come about by at most so many splices, in their order."""
-    if most < 0:
-        raise InvalidNumber(most)
+    check_number(most, 0)
     rules = box.rules
     known = {}
     seen = [({}, {}) for _ in rules]

@@ -37,6 +37,9 @@ class Web:
             self.row = self.row + rule[0] + rule[3] + GAP
             self.tails.append((len(self.row) - 1, {}))
         self.signs = sorted(set(self.row.replace(GAP, "")))
+        # The cheapest texts from the beginning of a film to the spots, and from the spots to the end of a film.
+        self.before = self.begun()
+        self.after = self.ended()
         _find_heads_and_tails(self, rules)
 
     def begun(self):
@@ -54,6 +57,14 @@ class Web:
     def back(self, ways, picture):
         """Return the cheapest ways that read one picture more ahead of what ways are to read."""
         return _step(ways, picture, self.tails, self.heads, self.row, -1, -1)
+
+    def forth_by_any(self, ways):
+        """Return the cheapest ways that read one picture more, whichever."""
+        moved = {}
+        for picture in self.signs:
+            for spot, (cost, text) in self.forth(ways, picture).items():
+                _keep(moved, spot, cost, text)
+        return moved
 
 
 def _keep(ways, spot, cost, text):
@@ -85,48 +96,48 @@ def _step(ways, picture, enter, leave, row, look, move):
 
 def _find_heads_and_tails(web, rules):
     # Heads and tails are found by other ones, so all are made cheaper until none can be.
-    before = web.begun()
-    after = web.ended()
     going = True
     while going:
-        going = _widen(web, before, after)
+        going = _widen(web)
         for index, (front, behind, ahead, back) in enumerate(rules):
-            ways = after
+            ways = web.after
             for picture in reversed(front + behind):
                 ways = web.back(ways, picture)
             near = web.heads[index][1]
             for spot, (cost, text) in ways.items():
                 if _keep(near, spot, cost, front + behind + text):
                     going = True
-            ways = before
-            for picture in ahead + back:
-                ways = web.forth(ways, picture)
+            ways = read_on(web, web.before, ahead + back)
             near = web.tails[index][1]
             for spot, (cost, text) in ways.items():
                 if _keep(near, spot, cost + 1, text + ahead + back):
                     going = True
 
 
-def _widen(web, before, after):
-    # Before a spot stands the cheapest text from the first picture to it, after it the one to the last picture.
+def _widen(web):
     wider = False
     for picture in web.signs:
-        moved = web.forth(before, picture)
+        moved = web.forth(web.before, picture)
         for spot, (cost, text) in moved.items():
-            if _keep(before, spot, cost, text + picture):
+            if _keep(web.before, spot, cost, text + picture):
                 wider = True
-        moved = web.back(after, picture)
+        moved = web.back(web.after, picture)
         for spot, (cost, text) in moved.items():
-            if _keep(after, spot, cost, picture + text):
+            if _keep(web.after, spot, cost, picture + text):
                 wider = True
     return wider
 
 
+def read_on(web, ways, text):
+    """Return the cheapest ways that read a text more behind what ways have read."""
+    for picture in text:
+        ways = web.forth(ways, picture)
+    return ways
+
+
 def reads(web, film):
     """Tell whether a film can be read in a web, that is, comes about."""
-    ways = web.begun()
-    for picture in film:
-        ways = web.forth(ways, picture)
+    ways = read_on(web, web.begun(), film)
     return any([spot in ways for spot in web.lasts])
 
 
@@ -145,8 +156,8 @@ def seam_plans(web, rules, film):
         for low in range(len(film) - len(bridge) + 1):
             high = low + len(bridge)
             if film[low:high] == bridge:
-                head = _cheapest(before[low], web.heads[index][1])
-                tail = _cheapest(after[high], web.tails[index][1])
+                head = cheapest(before[low], web.heads[index][1])
+                tail = cheapest(after[high], web.tails[index][1])
                 if head is not None and tail is not None:
                     first, second = film[:low] + head[1], tail[1] + film[high:]
                     plan = (head[0] + tail[0], first, second, len(tail[1]) - len(rule[3]))
@@ -154,7 +165,8 @@ def seam_plans(web, rules, film):
     return plans
 
 
-def _cheapest(ways, near):
+def cheapest(ways, near):
+    """Return the (cost, text) of the cheapest way on by one of the (cost, text) near it, `None` if there is none."""
     best = None
     for spot, (cost, text) in near.items():
         if spot in ways and (best is None or ways[spot][0] + cost < best[0]):

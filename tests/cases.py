@@ -1,5 +1,6 @@
 """What several tests need."""
 
+import copy
 import unittest
 
 LETTERS = "abcdefghijklmnopqrstuvwxyz"
@@ -17,3 +18,36 @@ class Case(unittest.TestCase):
         self.assertIs(type(caught.exception), error)
         self.assertEqual(caught.exception.value, value)
         self.assertIs(type(caught.exception.value), type(value))
+
+    def assert_new_lists(self, call, *told):
+        """Ask twice, and between spoil all lists of the first answer; return the second one."""
+        before = copy.deepcopy(told)
+        first = call(*told)
+        kept = copy.deepcopy(first)
+        spoil(first)
+        second = call(*told)
+        self.assertEqual(second, kept)
+        self.assertEqual(told, before)
+        self.assert_alone(second, told)
+        return second
+
+    def assert_alone(self, answer, told=()):
+        """Check that each list of an answer stands in one place alone, and not in what was handed in."""
+        found = lists_of(answer) + [part for thing in told for part in lists_of(thing)]
+        for part in lists_of(answer):
+            self.assertEqual([other is part for other in found].count(True), 1)
+
+
+def lists_of(thing):
+    """Return all lists of a thing, itself too, as often as they stand in it."""
+    if not isinstance(thing, (list, tuple)):
+        return []
+    own = [thing] if isinstance(thing, list) else []
+    return own + [part for inner in thing for part in lists_of(inner)]
+
+
+def spoil(thing):
+    """Change all lists of a thing."""
+    for part in lists_of(thing):
+        part.append("spoiled")
+        part.reverse()

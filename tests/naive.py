@@ -66,6 +66,43 @@ def count_splices(told):
     return 0 if told[0] == "strip" else 1 + count_splices(told[4]) + count_splices(told[5])
 
 
+def is_told(told, text):
+    """Tell whether a table holds a text."""
+    pictures, rows, ends = told
+    state = 0
+    for picture in text:
+        if picture not in pictures:
+            return False
+        state = rows[state][pictures.index(picture)]
+    return state in ends
+
+
+def table_by_signs(pictures, sign, is_held):
+    """Return the least table of some texts; two texts lead to one state exactly if their signs are equal."""
+    states, firsts, rows = {sign(""): 0}, [""], []
+    for text in firsts:
+        rows.append([])
+        for picture in pictures:
+            shown = sign(text + picture)
+            if shown not in states:
+                states[shown] = len(firsts)
+                firsts.append(text + picture)
+            rows[-1].append(states[shown])
+    return pictures, rows, [at for at, text in enumerate(firsts) if is_held(text)]
+
+
+def table_of_films(pictures, films):
+    """Return the least table of finitely many films."""
+    return table_by_signs(
+        pictures, lambda text: frozenset(film[len(text):] for film in films if film.startswith(text)),
+        lambda text: text in films)
+
+
+def pieces_of(film):
+    """Return all pieces of a film, the empty one too."""
+    return {film[low:high] for low in range(len(film) + 1) for high in range(low, len(film) + 1)}
+
+
 def in_order(films):
     """Return films in their order."""
     return sorted(films, key=lambda film: (len(film), film))

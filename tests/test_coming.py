@@ -5,39 +5,12 @@ import unittest
 
 from cases import Case, WRONG_TEXTS
 from naive import all_films, all_splices, boxes_by_chance, count_splices, fewest_by_rounds, film_told, in_order, texts
+from samples import FEW, MANY
 from splicedfilms.boxes import Box
 from splicedfilms.errors import InvalidFilm, InvalidNumber
 from splicedfilms.films import comes, film_of, judge_tree, splices, tree, within
 
 ROUND = Box(["abc"], [("b", "c", "a", "b")])
-# Boxes by which only few films come about, so that a test finds them all.
-FEW = [
-    ([], []),
-    ([], [("a", "", "", "a")]),
-    (["ab", "b"], []),
-    (["ab", "cd"], [("a", "b", "c", "d")]),
-    (["ab", "cd", "ab"], [("a", "b", "c", "d"), ("a", "b", "c", "d")]),
-    (["abc", "cba"], [("a", "b", "b", "a"), ("c", "b", "b", "c")]),
-    (["abc", "de"], [("c", "", "", "d"), ("b", "c", "d", "e"), ("c", "d", "d", "e")]),
-    (["ad", "bc"], [("a", "", "", "b"), ("b", "c", "", "d"), ("ab", "c", "b", "c")]),
-    (["ab", "bc", "acb"], [("a", "b", "b", "c"), ("ac", "", "ac", "b"), ("a", "cb", "", "bc")]),
-    (["abcd", "e"], [("abc", "d", "", "e"), ("a", "bce", "bc", "e")]),
-    (["bbbbc"], [("b", "bc", "bb", "c")]),
-    (["bbbba", "baa"], [("b", "ba", "", "a")]),
-    (["dadd", "bbbd"], [("d", "a", "d", "d"), ("b", "bd", "", "da"), ("bb", "d", "a", "d")]),
-    (["bbd", "ddbac", "bab", "adc"], [("ba", "b", "b", "ab"), ("a", "", "b", "bd"), ("b", "a", "b", "d")]),
-    (["accbc", "dadc", "abbc", "ddc"], [("a", "b", "d", "dc"), ("a", "cc", "ac", "c"), ("d", "", "", "ac")]),
-    (["b", "cba", "aaab", "acbc"], [("c", "b", "aa", "a"), ("aa", "b", "", "b"), ("cb", "a", "c", "bc")]),
-]
-# Boxes by which endless many films come about, those of a pattern, and the fewest splices of each one.
-MANY = [
-    (["abc"], [("b", "c", "a", "b")], "ab+c", lambda film: len(film) - 3),
-    (["a", "aa"], [("a", "", "", "a")], "a+", lambda film: (len(film) - 1) // 2),
-    (["aa"], [("a", "", "", "a")], "aa+", lambda film: (len(film) - 1) // 2),
-    (["ab"], [("b", "", "", "a")], "(ab)+", lambda film: len(film) // 2 - 1),
-    (["ab"], [("b", "", "", "b")], "ab+", lambda film: len(film) - 2),
-    (["ab", "cb"], [("b", "", "", "b"), ("a", "", "c", "b")], "[ac]b+", lambda film: len(film) - 2),
-]
 # Boxes of which the program finds some film only late, while it looks for all that may come about.
 LATE = [
     (["bb", "bba", "bb"], [("bb", "a", "", "a"), ("b", "b", "b", "b"), ("b", "", "", "bb")]),

@@ -24,6 +24,48 @@ FILMS = '''
 ['abbbc', 2, True, None]
 '''
 
+SEAMS = '''
+>>> from splicedfilms.boxes import Box
+>>> from splicedfilms.seams import beyond, reasons, seams, tree_at
+>>> round_box = Box(["abc"], [("b", "c", "a", "b")])
+>>> [seams(round_box, "abbbc"), tree_at(round_box, "abbc", 0, 2), reasons(round_box, "abbc"), reasons(round_box, "ab"), beyond(round_box, 1)]
+[[(0, 2), (0, 3)], ('splice', 0, 2, 1, ('strip', 0), ('strip', 0)), [([0], [0])], [], 'abbbc']
+'''
+
+FEWEST = '''
+>>> from splicedfilms.boxes import Box
+>>> from splicedfilms.fewest import fewest, fewest_long, fewest_with
+>>> round_box = Box(["abc"], [("b", "c", "a", "b")])
+>>> [fewest(round_box, "abc"), fewest(round_box, "abbbc"), fewest(round_box, "ab"), fewest_with(round_box, "bbb"), fewest_long(round_box, 7), fewest_long(round_box, 2)]
+[0, 2, None, 2, 4, None]
+'''
+
+TABLES = '''
+>>> from splicedfilms.boxes import Box
+>>> from splicedfilms.tables import apart, holds, is_closed, judge_table, least, table
+>>> round_box = Box(["abc"], [("b", "c", "a", "b")])
+>>> told = table(round_box)
+>>> [told, holds(told, "abbc"), holds(told, "abd"), judge_table(round_box, told), is_closed(round_box, ("abc", [[0, 0, 0]], [0]))]
+[('abc', [[1, 2, 2], [2, 3, 2], [2, 2, 2], [2, 3, 4], [2, 2, 2]], [4]), True, False, True, True]
+>>> [judge_table(round_box, ("abc", [[0, 0, 0]], [0])), apart(told, ("abc", [[0, 0, 0]], [0])), least(("ab", [[1, 2], [0, 0], [1, 1]], []))]
+[False, '', ('ab', [[0, 0]], [])]
+'''
+
+QUESTIONS = '''
+>>> from splicedfilms.boxes import Box
+>>> from splicedfilms.questions import all_have, barred, beginnings, beside, endings, exchanged, film_at, how_many, is_endless, longest, number, number_rest, pieces, rank, shortest, some_have
+>>> round_box = Box(["abc"], [("b", "c", "a", "b")])
+>>> [number(round_box, 7), number(round_box, 2), number_rest(round_box, 10 ** 30, 7), is_endless(round_box), how_many(round_box), shortest(round_box), longest(round_box)]
+[1, 0, 1, True, None, ['abc'], None]
+>>> [some_have(round_box, "bbb"), all_have(round_box, "bb"), all_have(round_box, "ab"), pieces(round_box, 2), beginnings(round_box, 2), endings(round_box, 3), beside(round_box)]
+['abbbc', 'abc', None, ['ab', 'bb', 'bc'], ['ab'], ['abc', 'bbc'], ['aa', 'ac', 'ba', 'ca', 'cb', 'cc']]
+>>> swap = Box(["ab", "cd"], [("a", "b", "c", "d")])
+>>> [how_many(swap), longest(swap), shortest(swap), film_at(swap, 3), rank(round_box, "abbc"), film_at(round_box, 4)]
+[3, ['ab', 'ad', 'cd'], ['ab', 'ad', 'cd'], None, 1, 'abbbbbc']
+>>> [barred(round_box, 3), exchanged(round_box, "b", "bb"), exchanged(round_box, "b", ""), exchanged(round_box, "c", "bc")]
+[['aa', 'ac', 'ba', 'ca', 'cb', 'cc'], None, 'abc', None]
+'''
+
 
 class Examples(unittest.TestCase):
     def check(self, text, number):
@@ -37,6 +79,18 @@ class Examples(unittest.TestCase):
 
     def test_films(self):
         self.check(FILMS, 6)
+
+    def test_seams(self):
+        self.check(SEAMS, 4)
+
+    def test_fewest(self):
+        self.check(FEWEST, 4)
+
+    def test_tables(self):
+        self.check(TABLES, 6)
+
+    def test_questions(self):
+        self.check(QUESTIONS, 8)
 
 
 if __name__ == "__main__":

@@ -12,6 +12,22 @@ FUNCTIONS = {
         "comes": ["box", "film"], "tree": ["box", "film"], "film_of": ["box", "told"], "splices": ["told"],
         "judge_tree": ["box", "film", "told"], "within": ["box", "most"],
     },
+    "seams": {
+        "seams": ["box", "film"], "tree_at": ["box", "film", "index", "at"], "reasons": ["box", "film"],
+        "beyond": ["box", "most"],
+    },
+    "fewest": {"fewest": ["box", "film"], "fewest_with": ["box", "piece"], "fewest_long": ["box", "length"]},
+    "tables": {
+        "table": ["box"], "holds": ["told", "film"], "is_closed": ["box", "told"], "judge_table": ["box", "told"],
+        "apart": ["one", "other"], "least": ["told"],
+    },
+    "questions": {
+        "number": ["box", "length"], "number_rest": ["box", "length", "modulus"], "is_endless": ["box"],
+        "how_many": ["box"], "shortest": ["box"], "longest": ["box"], "some_have": ["box", "piece"],
+        "all_have": ["box", "piece"], "pieces": ["box", "length"], "beginnings": ["box", "length"],
+        "endings": ["box", "length"], "beside": ["box"], "barred": ["box", "length"],
+        "exchanged": ["box", "piece", "other"], "rank": ["box", "film"], "film_at": ["box", "index"],
+    },
 }
 METHODS = {
     "__init__": ["self", "strips", "rules"], "pictures": ["self"], "with_strip": ["self", "strip"],

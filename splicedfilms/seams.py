@@ -1,0 +1,68 @@
+"""Where films may have been spliced last, and what they need to come about."""
+
+from itertools import combinations
+
+from splicedfilms.boxes import Box
+from splicedfilms.checks import check_film
+from splicedfilms.errors import NoSplice, UnknownRule
+from splicedfilms.films import comes, tree, within
+from splicedfilms.questions import film_at, rank
+from splicedfilms.webs import seam_plans
+
+
+def seams(box, film):
+    """Return the ascending list of the (index, at) of all splices with which some tree of a film ends."""
+    check_film(film)
+    return sorted(seam_plans(box.web(), box.rules, film))
+
+
+def tree_at(box, film, index, at):
+    """Return a tree of a film with this last splice, of as few splices as can be."""
+    check_film(film)
+    rules = box.rules
+    if not 0 <= index < len(rules):
+        raise UnknownRule(index)
+    plans = seam_plans(box.web(), rules, film)
+    if (index, at) not in plans:
+        raise NoSplice(at)
+    _, first, second, place = plans[(index, at)]
+    return "splice", index, at, place, tree(box, first), tree(box, second)
+
+
+def reasons(box, film):
+    """Return the list of all (strips, rules) by which alone a film comes about, and by no part of which it does."""
+    check_film(film)
+    strips, rules = box.strips, box.rules
+    parts = [("strip", at) for at in range(len(strips))] + [("rule", at) for at in range(len(rules))]
+    found = []
+    for size in range(len(parts) + 1):
+        for chosen in combinations(parts, size):
+            if not _has_reason(chosen, found):
+                lesser = Box([strips[at] for at in _of_kind("strip", chosen)],
+                             [rules[at] for at in _of_kind("rule", chosen)])
+                if comes(lesser, film):
+                    found.append(chosen)
+    told = [(_of_kind("strip", chosen), _of_kind("rule", chosen)) for chosen in found]
+    return sorted(told, key=lambda reason: (len(reason[0]) + len(reason[1]), reason))
+
+
+def _has_reason(chosen, found):
+    return any([all([part in chosen for part in reason]) for reason in found])
+
+
+def _of_kind(kind, chosen):
+    return [at for name, at in chosen if name == kind]
+
+
+def beyond(box, most):
+    """Return the first film that comes about by no tree of at most so many splices, `None` if there is none."""
+    known = within(box, most)
+    # The rank of a film is its place in this list, unless a film that is not in the list is ahead of it.
+    low, high = 0, len(known)
+    while low < high:
+        middle = (low + high) // 2
+        if rank(box, known[middle]) == middle:
+            low = middle + 1
+        else:
+            high = middle
+    return film_at(box, low)
