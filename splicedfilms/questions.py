@@ -2,7 +2,7 @@
 
 from splicedfilms.checks import check_film, check_number, check_piece
 from splicedfilms.counts import count_rest, counts_of_ends, counts_to, lengths_end, longer_counts, texts_between
-from splicedfilms.searches import BOTH, FIRST_ALONE, first_of_two, first_text
+from splicedfilms.searches import BOTH, FIRST_ALONE, first_of_two, first_over_bridge
 from splicedfilms.states import holds_text, hopeful, lead, table_of_piece
 
 
@@ -114,26 +114,8 @@ def exchanged(box, piece, other):
     check_piece(piece)
     check_piece(other)
     told = box.kept_table()
-    pictures, rows, ends = told
-    # A node is (what must be read next, the state behind it, the one if the other piece stands there in its place);
-    # the last one is `None` ahead of the piece.
-    arrivals = [
-        [("", state, None), (piece, lead(told, state, piece), lead(told, state, other))] for state in range(len(rows))
-    ]
-
-    def ways(node):
-        rest, state, changed = node
-        if rest:
-            return [(rest[0], (rest[1:], state, changed))]
-        if changed is None:
-            return [(picture, entry) for picture, after in zip(pictures, rows[state]) for entry in arrivals[after]]
-        return [(picture, ("", lead(told, state, picture), lead(told, changed, picture))) for picture in pictures]
-
-    def is_goal(node):
-        rest, state, changed = node
-        return rest == "" and changed is not None and state in ends and changed not in ends
-
-    return first_text(arrivals[0], ways, is_goal)
+    pairs = [[(lead(told, state, piece), lead(told, state, other))] for state in range(len(told[1]))]
+    return first_over_bridge(told, piece, pairs, (True, False))
 
 
 def rank(box, film):

@@ -1,11 +1,9 @@
 """Where films may have been spliced last, and what they need to come about."""
 
-from itertools import combinations
-
-from splicedfilms.boxes import Box
 from splicedfilms.checks import check_film
 from splicedfilms.errors import NoSplice, UnknownRule
 from splicedfilms.films import comes, tree, within
+from splicedfilms.parts import least_parts
 from splicedfilms.questions import film_at, rank
 from splicedfilms.webs import seam_plans
 
@@ -32,26 +30,7 @@ def tree_at(box, film, index, at):
 def reasons(box, film):
     """Return the list of all (strips, rules) by which alone a film comes about, and by no part of which it does."""
     check_film(film)
-    strips, rules = box.strips, box.rules
-    parts = [("strip", at) for at in range(len(strips))] + [("rule", at) for at in range(len(rules))]
-    found = []
-    for size in range(len(parts) + 1):
-        for chosen in combinations(parts, size):
-            if not _has_reason(chosen, found):
-                lesser = Box([strips[at] for at in _of_kind("strip", chosen)],
-                             [rules[at] for at in _of_kind("rule", chosen)])
-                if comes(lesser, film):
-                    found.append(chosen)
-    told = [(_of_kind("strip", chosen), _of_kind("rule", chosen)) for chosen in found]
-    return sorted(told, key=lambda reason: (len(reason[0]) + len(reason[1]), reason))
-
-
-def _has_reason(chosen, found):
-    return any([all([part in chosen for part in reason]) for reason in found])
-
-
-def _of_kind(kind, chosen):
-    return [at for name, at in chosen if name == kind]
+    return least_parts(box, lambda lesser: comes(lesser, film))
 
 
 def beyond(box, most):

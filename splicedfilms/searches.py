@@ -66,3 +66,35 @@ def first_of_two(one, other, wanted):
         return (node[0] in one_ends, node[1] in other_ends) in wanted
 
     return first_text([(0, 0)], ways, is_goal)
+
+
+def first_over_bridge(told, bridge, pairs, wanted):
+    """Return the first text x + bridge + y by which two states come to what is wanted, `None` if there is none.
+
+    `pairs[state]` lists the (first, second) states behind the bridge if x leads to `state`; y leads on from both of
+    them. What is wanted is whether the first one comes to an end, and whether the second one does.
+    """
+    pictures, rows, _ = told
+    ends = {state: True for state in told[2]}
+    # A node is (what is left of the bridge, the state of x, `None`), or behind the bridge ("", first, second).
+    arrivals = [[("", state, None)] + _at_bridge(bridge, state, pairs[state]) for state in range(len(rows))]
+
+    def ways(node):
+        rest, state, second = node
+        if rest:
+            return [(rest[0], entry) for entry in _at_bridge(rest[1:], state, pairs[state])]
+        if second is None:
+            return [(picture, entry) for picture, after in zip(pictures, rows[state]) for entry in arrivals[after]]
+        return [(picture, ("", lead(told, state, picture), lead(told, second, picture))) for picture in pictures]
+
+    def is_goal(node):
+        rest, state, second = node
+        return rest == "" and second is not None and (state in ends, second in ends) == wanted
+
+    return first_text(arrivals[0], ways, is_goal)
+
+
+def _at_bridge(rest, state, pairs):
+    if rest and pairs:
+        return [(rest, state, None)]
+    return [("", first, second) for first, second in pairs]

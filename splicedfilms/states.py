@@ -117,3 +117,11 @@ def table_of_piece(piece, pictures):
 
 def _begun(piece, text):
     return max([size for size in range(len(text) + 1) if text.endswith(piece[:size])])
+
+
+def without_empty(told):
+    """Return a table that holds the same films, and not the empty text."""
+    # No text leads back to the new state 0, so the films that lead to the old one stay.
+    pictures, rows, ends = told
+    moved = [[state + 1 for state in row] for row in rows]
+    return pictures, [list(moved[0])] + moved, [state + 1 for state in ends]

@@ -1,8 +1,9 @@
 """Tables: the one of a box, and what tables that are handed in hold."""
 
 from splicedfilms.checks import check_film, check_table, copied
+from splicedfilms.keeping import keeps
 from splicedfilms.searches import JUST_ONE, first_of_two
-from splicedfilms.states import holds_text, hopeful, lead, least_table, reached
+from splicedfilms.states import holds_text, least_table
 
 
 def table(box):
@@ -22,42 +23,7 @@ def is_closed(box, told):
     check_table(told)
     if not all([holds_text(told, strip) for strip in box.strips]):
         return False
-    pairs = []
-    for rule in box.rules:
-        pairs.extend(_joined_states(told, rule))
-    return _lead_on(told, pairs)
-
-
-def _joined_states(told, rule):
-    # Behind the back of a rule, a splice stands where the first state of a pair is, its second film where the other is.
-    front, behind, ahead, back = rule
-    hopes = hopeful(told)
-    firsts = {}
-    seconds = {}
-    for state in reached(told):
-        cut = lead(told, state, front)
-        if lead(told, cut, behind) in hopes:
-            firsts[lead(told, cut, back)] = True
-        place = lead(told, state, ahead + back)
-        if place in hopes:
-            seconds[place] = True
-    return [(first, second) for first in firsts for second in seconds]
-
-
-def _lead_on(told, pairs):
-    # Tells whether, for each pair, all texts that lead from the second state to an end do so from the first one.
-    _, rows, ends = told
-    seen = {}
-    todo = list(pairs)
-    while todo:
-        pair = todo.pop()
-        first, second = pair
-        if first != second and pair not in seen:
-            if second in ends and first not in ends:
-                return False
-            seen[pair] = True
-            todo.extend(list(zip(rows[first], rows[second])))
-    return True
+    return all([keeps(told, rule) for rule in box.rules])
 
 
 def judge_table(box, told):

@@ -3,6 +3,8 @@
 import copy
 import unittest
 
+from splicedfilms.errors import InvalidTable
+
 LETTERS = "abcdefghijklmnopqrstuvwxyz"
 # Texts that are neither films nor pieces: each sign from the space to the tilde that is no picture, and where it stands.
 WRONG_SIGNS = [chr(code) for code in range(32, 127) if chr(code) not in LETTERS and code != 37]
@@ -18,6 +20,16 @@ class Case(unittest.TestCase):
         self.assertIs(type(caught.exception), error)
         self.assertEqual(caught.exception.value, value)
         self.assertIs(type(caught.exception.value), type(value))
+
+    def assert_no_table(self, told, call, *arguments):
+        """Check that a call raises `InvalidTable` with a copy of a tuple."""
+        before = copy.deepcopy(told)
+        with self.assertRaises(InvalidTable) as caught:
+            call(*arguments)
+        self.assertIs(type(caught.exception), InvalidTable)
+        value = caught.exception.value
+        self.assertEqual((value, type(value), told), (before, tuple, before))
+        self.assert_alone(value, (told,))
 
     def assert_new_lists(self, call, *told):
         """Ask twice, and between spoil all lists of the first answer; return the second one."""

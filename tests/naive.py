@@ -140,3 +140,10 @@ def _rule(chance, pictures, strips):
         two[max(0, place - chance.randint(0, 2)):place],
         two[place:place + chance.randint(1, 2)],
     )
+
+
+def table_by_chance(chance, pictures, most):
+    """Return some table."""
+    many = chance.randint(1, most)
+    rows = [[chance.randrange(many) for _ in pictures] for _ in range(many)]
+    return pictures, rows, [state for state in range(many) if chance.random() < 0.4]

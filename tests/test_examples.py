@@ -66,6 +66,34 @@ QUESTIONS = '''
 [['aa', 'ac', 'ba', 'ca', 'cb', 'cc'], None, 'abc', None]
 '''
 
+COMPARE = '''
+>>> from splicedfilms.boxes import Box
+>>> from splicedfilms.compare import alike, brings, first_more, first_unlike, least_boxes, needless_rules, needless_strips
+>>> round_box = Box(["abc", "abbc"], [("b", "c", "a", "b"), ("bb", "c", "a", "b")])
+>>> [needless_rules(round_box), needless_strips(round_box), least_boxes(round_box), brings(round_box, ("b", "", "", "b")), brings(round_box, ("a", "b", "b", "c"))]
+[[0, 1], [1], [([0], [0]), ([0, 1], [1])], None, 'ac']
+>>> plain = Box(["abc", "abbc"], [])
+>>> [alike(round_box, plain), first_unlike(round_box, plain), first_more(plain, round_box)]
+[False, 'abbbc', None]
+'''
+
+JOINTS = '''
+>>> from splicedfilms.boxes import Box
+>>> from splicedfilms.joints import is_joint, joints, looks_back, torn
+>>> round_box, apart_box = Box(["abc"], [("b", "c", "a", "b")]), Box(["bac", "dae"], [("ba", "", "b", "a"), ("da", "", "d", "a")])
+>>> [is_joint(round_box, "b"), joints(round_box, 1), looks_back(round_box), is_joint(apart_box, "aa"), torn(apart_box, "aa"), looks_back(apart_box), is_joint(apart_box, "ba")]
+[True, ['a', 'b', 'c'], 1, False, 'baae', None, True]
+'''
+
+ORIGINS = '''
+>>> from splicedfilms.boxes import Box
+>>> from splicedfilms.origins import broken, greatest_box, kept_rules, unmade
+>>> from splicedfilms.tables import table
+>>> told = table(Box(["ab"], [("b", "", "", "b")]))
+>>> [told, broken(told, ("b", "", "", "a")), broken(told, ("a", "b", "", "b")), len(kept_rules(told, 1)), greatest_box(told, 2, 1).strips, unmade(told, 1, 1), unmade(told, 2, 1)]
+[('ab', [[1, 2], [2, 3], [2, 2], [2, 3]], [3]), 'abab', None, 32, ['ab'], 'ab', None]
+'''
+
 
 class Examples(unittest.TestCase):
     def check(self, text, number):
@@ -91,6 +119,15 @@ class Examples(unittest.TestCase):
 
     def test_questions(self):
         self.check(QUESTIONS, 8)
+
+    def test_compare(self):
+        self.check(COMPARE, 6)
+
+    def test_joints(self):
+        self.check(JOINTS, 4)
+
+    def test_origins(self):
+        self.check(ORIGINS, 5)
 
 
 if __name__ == "__main__":

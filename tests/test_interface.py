@@ -28,6 +28,17 @@ FUNCTIONS = {
         "endings": ["box", "length"], "beside": ["box"], "barred": ["box", "length"],
         "exchanged": ["box", "piece", "other"], "rank": ["box", "film"], "film_at": ["box", "index"],
     },
+    "compare": {
+        "alike": ["one", "other"], "first_unlike": ["one", "other"], "first_more": ["one", "other"],
+        "needless_rules": ["box"], "needless_strips": ["box"], "least_boxes": ["box"], "brings": ["box", "rule"],
+    },
+    "joints": {
+        "is_joint": ["box", "piece"], "torn": ["box", "piece"], "joints": ["box", "length"], "looks_back": ["box"],
+    },
+    "origins": {
+        "broken": ["told", "rule"], "kept_rules": ["told", "size"], "greatest_box": ["told", "length", "size"],
+        "unmade": ["told", "length", "size"],
+    },
 }
 METHODS = {
     "__init__": ["self", "strips", "rules"], "pictures": ["self"], "with_strip": ["self", "strip"],

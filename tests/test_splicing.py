@@ -5,16 +5,11 @@ import unittest
 
 from cases import Case, LETTERS, WRONG_TEXTS
 from naive import sites
+from samples import WRONG_RULES
 from splicedfilms.boxes import cuts, places, spliced
-from splicedfilms.errors import InvalidFilm, InvalidPiece, InvalidRule, NoSplice
+from splicedfilms.errors import InvalidFilm, NoSplice
 
 RULE = ("a", "b", "b", "c")
-WRONG_RULES = [
-    (InvalidRule, ("a", "b", "c"), ("a", "b", "c")), (InvalidRule, (), ()), (InvalidRule, ("a",) * 5, ("a",) * 5),
-    (InvalidRule, ("", "b", "b", "c"), ("", "b", "b", "c")), (InvalidRule, ("a", "b", "b", ""), ("a", "b", "b", "")),
-    (InvalidPiece, "A", ("A", "B", "", "c")), (InvalidPiece, "B", ("", "B", "", "c")),
-    (InvalidPiece, "-", ("a", "", "-", "")), (InvalidPiece, " ", ("a", "", "", " ")),
-]
 
 
 class Cuts(Case):

@@ -6,30 +6,17 @@ import random
 import re
 import unittest
 
-from cases import Case, WRONG_SIGNS, WRONG_TEXTS
+from cases import Case, WRONG_TEXTS
 from naive import (
-    all_films, boxes_by_chance, fewest_by_rounds, is_told, sites, table_by_signs, table_of_films, texts)
-from samples import FEW, MANY
+    all_films, boxes_by_chance, fewest_by_rounds, is_told, sites, table_by_chance, table_by_signs, table_of_films, texts)
+from samples import FEW, MANY, NO_TABLES
 from splicedfilms.boxes import Box
-from splicedfilms.errors import InvalidFilm, InvalidTable
+from splicedfilms.errors import InvalidFilm
 from splicedfilms.films import comes, judge_tree, tree
 from splicedfilms.tables import apart, holds, is_closed, judge_table, least, table
 
 ROUND = Box(["abc"], [("b", "c", "a", "b")])
 ROUND_TABLE = ("abc", [[1, 2, 2], [2, 3, 2], [2, 2, 2], [2, 3, 4], [2, 2, 2]], [4])
-# Pictures that do not ascend, or are none; no states; rows that are too long or too short; states that are not there,
-# in rows and as ends; ends that do not ascend; and tuples that have not three things.
-NO_TABLES = [
-    ("ba", [[0, 0]], []), ("aa", [[0, 0]], [0]), ("aba", [[0, 0, 0]], []), ("acb", [[0, 0, 0]], []),
-    ("a", [], []), ("", [], []), ("a", [], [0]), ("ab", [], []),
-    ("a", [[]], []), ("a", [[0, 0]], []), ("", [[0]], []), ("ab", [[0, 1], [0]], []), ("ab", [[0, 0], [1, 1, 1]], [1]),
-    ("a", [[1]], []), ("a", [[-1]], []), ("a", [[1], [2]], [0]), ("a", [[0], [-2]], [0]), ("ab", [[0, 10 ** 30]], []),
-    ("a", [[0]], [1]), ("a", [[0]], [-1]), ("a", [[0], [0]], [0, 2]), ("a", [[0], [0]], [-1, 0]), ("", [[]], [1]),
-    ("a", [[0], [0]], [1, 0]), ("a", [[0], [0]], [0, 0]), ("a", [[0], [0], [0]], [0, 2, 1]), ("", [[], []], [1, 1]),
-]
-NO_TABLES += [(), ("a",), ("a", [[0]]), ("a", [[0]], [], [])]
-NO_TABLES += [(sign, [[0]], []) for sign in WRONG_SIGNS]
-NO_TABLES += [("".join(sorted("c" + sign)), [[0, 0]], [0]) for sign in WRONG_SIGNS]
 # Tables that are not least: states that are not wanted, that stand twice, that are in another order.
 LOOSE = [
     (("a", [[0], [0]], [0, 1]), ("a", [[0]], [0])),
@@ -43,13 +30,6 @@ LOOSE = [
     (("abc", [[4, 3, 3], [3, 3, 3], [3, 2, 1], [3, 3, 3], [3, 2, 3], [1, 1, 1]], [1]), ROUND_TABLE),
     (("bc", [[1, 1], [2, 0], [3, 1], [4, 2], [5, 3], [0, 4]], [1, 3, 5]), ("bc", [[1, 1], [0, 0]], [1])),
 ]
-
-
-def by_chance(chance, pictures, most):
-    """Return some table."""
-    many = chance.randint(1, most)
-    rows = [[chance.randrange(many) for _ in pictures] for _ in range(many)]
-    return pictures, rows, [state for state in range(many) if chance.random() < 0.4]
 
 
 def loosened(chance, told):
@@ -159,15 +139,6 @@ class TablesOfBoxes(Case):
 
 
 class NoTables(Case):
-    def assert_no_table(self, told, call, *arguments):
-        before = copy.deepcopy(told)
-        with self.assertRaises(InvalidTable) as caught:
-            call(*arguments)
-        self.assertIs(type(caught.exception), InvalidTable)
-        value = caught.exception.value
-        self.assertEqual((value, type(value), told), (before, tuple, before))
-        self.assert_alone(value, (told,))
-
     def test_each_kind(self):
         for told in NO_TABLES:
             self.assert_no_table(told, holds, told, "a")
@@ -239,7 +210,7 @@ class Least(Case):
     def test_tables_by_chance(self):
         chance = random.Random(5)
         for _ in range(300):
-            told = by_chance(chance, chance.choice(["", "a", "bc", "abc"]), 4)
+            told = table_by_chance(chance, chance.choice(["", "a", "bc", "abc"]), 4)
             tails = [""] + texts(told[0], 4)
             expected = table_by_signs(
                 told[0], lambda text: tuple(is_told(told, text + tail) for tail in tails),
@@ -281,8 +252,8 @@ class Apart(Case):
         chance = random.Random(6)
         seen = [0, 0]
         for _ in range(400):
-            one = by_chance(chance, chance.choice(["", "a", "ab", "bc"]), 3)
-            other = by_chance(chance, chance.choice(["", "a", "ab", "bc"]), 3)
+            one = table_by_chance(chance, chance.choice(["", "a", "ab", "bc"]), 3)
+            other = table_by_chance(chance, chance.choice(["", "a", "ab", "bc"]), 3)
             unlike = [text for text in [""] + texts("abc", 6) if is_told(one, text) != is_told(other, text)]
             expected = unlike[0] if unlike else None
             before = copy.deepcopy((one, other))
@@ -332,7 +303,7 @@ class Closed(Case):
         chance = random.Random(7)
         seen = [0, 0]
         for _ in range(400):
-            told = by_chance(chance, "ab", 4)
+            told = table_by_chance(chance, "ab", 4)
             films = [film for film in texts("ab", 3) if is_told(told, film)]
             strips = chance.sample(films, min(len(films), 1))
             rules = [tuple(chance.choice(["", "a", "b", "ab"][least_size:]) for least_size in (1, 0, 0, 1))]
@@ -347,7 +318,7 @@ class Closed(Case):
         seen = 0
         for strips, rules in boxes_by_chance(9, 150):
             box = Box(strips, rules)
-            for told in (table(Box(strips, [])), table(box), table(box.with_strip("ab")), by_chance(chance, "abc", 3)):
+            for told in (table(Box(strips, [])), table(box), table(box.with_strip("ab")), table_by_chance(chance, "abc", 3)):
                 if is_closed(box, told):
                     seen += 1
                     self.assertTrue(all(is_told(told, film) for film in texts("abc", 4) if comes(box, film)))
