@@ -7,7 +7,8 @@ PICTURES = "abcdefghijklmnopqrstuvwxyz"
 
 def is_piece(text):
     """Tell whether a text is a piece, perhaps the empty one."""
-    return all([sign in PICTURES for sign in text])
+    # What is left without the pictures at both ends begins with a sign that is none.
+    return text.strip(PICTURES) == ""
 
 
 def is_film(text):

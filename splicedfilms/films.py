@@ -3,6 +3,7 @@
 from splicedfilms.boxes import cuts, places, spliced
 from splicedfilms.checks import check_film, check_number
 from splicedfilms.errors import NoSplice, UnknownRule, UnknownStrip
+from splicedfilms.trees import fold
 from splicedfilms.webs import reads, seam_plans
 
 
@@ -48,41 +49,24 @@ def _tree_of_plans(strips, found, film):
 def film_of(box, told):
     """Return the film that a tree tells."""
     strips, rules = box.strips, box.rules
-    films = []
-    # Trees may be too deep for calls of calls: a splice comes up again when its two films stand at the end of `films`.
-    todo = [(told, False)]
-    while todo:
-        part, is_ready = todo.pop()
-        if part[0] == "strip":
-            if not 0 <= part[1] < len(strips):
-                raise UnknownStrip(part[1])
-            films.append(strips[part[1]])
-        elif is_ready:
-            other = films.pop()
-            film = films.pop()
-            films.append(_splice_by(rules, part, film, other))
-        else:
-            todo.extend([(part, True), (part[5], False), (part[4], False)])
-    return films[0]
 
+    def strip_of(index):
+        if not 0 <= index < len(strips):
+            raise UnknownStrip(index)
+        return strips[index]
 
-def _splice_by(rules, part, film, other):
-    _, index, cut, place, _, _ = part
-    if not 0 <= index < len(rules):
-        raise UnknownRule(index)
-    return spliced(rules[index], film, cut, other, place)
+    def splice_of(numbers, film, other):
+        index, cut, place = numbers
+        if not 0 <= index < len(rules):
+            raise UnknownRule(index)
+        return spliced(rules[index], film, cut, other, place)
+
+    return fold(told, strip_of, splice_of)
 
 
 def splices(told):
     """Return the number of splices of a tree."""
-    number = 0
-    todo = [told]
-    while todo:
-        part = todo.pop()
-        if part[0] == "splice":
-            number += 1
-            todo.extend([part[4], part[5]])
-    return number
+    return fold(told, lambda index: 0, lambda numbers, first, second: 1 + first + second)
 
 
 def judge_tree(box, film, told):

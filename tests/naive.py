@@ -2,6 +2,7 @@
 
 import itertools
 import random
+import re
 
 
 def sites(left, right, film):
@@ -147,3 +148,38 @@ def table_by_chance(chance, pictures, most):
     many = chance.randint(1, most)
     rows = [[chance.randrange(many) for _ in pictures] for _ in range(many)]
     return pictures, rows, [state for state in range(many) if chance.random() < 0.4]
+
+
+def is_text_of_box(text):
+    """Tell whether some box has a text."""
+    film, piece = "[a-z]+", "[a-z]*"
+    rule = f"; {film}\\|{piece} {piece}\\|{film}"
+    return re.fullmatch(f"({film}(, {film})*)?({rule})*", text) is not None
+
+
+def tree_told(text):
+    """Return the tree with a text, `None` if none has it."""
+    found = _tree_at(text, 0)
+    return None if found is None or found[1] != len(text) else found[0]
+
+
+def _tree_at(text, at):
+    number = "(0|[1-9][0-9]{0,3})"
+    strip = re.compile(f"strip {number}(?![0-9])").match(text, at)
+    if strip:
+        return ("strip", int(strip[1])), strip.end()
+    head = re.compile(f"rule {number} {number} {number} \\(").match(text, at)
+    one = head and _tree_at(text, head.end())
+    other = one and text.startswith(") (", one[1]) and _tree_at(text, one[1] + 3)
+    if not other or not text.startswith(")", other[1]):
+        return None
+    return ("splice", int(head[1]), int(head[2]), int(head[3]), one[0], other[0]), other[1] + 1
+
+
+def changed_texts(text, signs):
+    """Return the texts with one sign taken out, exchanged or put in."""
+    found = {text[:at] + text[at + 1:] for at in range(len(text))}
+    for sign in signs:
+        found.update(text[:at] + sign + text[at + 1:] for at in range(len(text)))
+        found.update(text[:at] + sign + text[at:] for at in range(len(text) + 1))
+    return sorted(found - {text})

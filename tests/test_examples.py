@@ -94,6 +94,34 @@ ORIGINS = '''
 [('ab', [[1, 2], [2, 3], [2, 2], [2, 3]], [3]), 'abab', None, 32, ['ab'], 'ab', None]
 '''
 
+GUESSES = '''
+>>> from splicedfilms.boxes import Box
+>>> from splicedfilms.guesses import fitting, telling
+>>> menu = [("b", "c", "a", "b"), ("a", "b", "b", "c"), ("b", "c", "b", "c")]
+>>> [fitting(Box(["abc"], []), menu, ["abbc"], ["ac"]), telling(Box(["abc"], []), menu, [], ["ac"]), telling(Box(["abc"], []), menu, ["abbc"], ["ac"])]
+[[[0], [0, 2]], 'abbc', None]
+'''
+
+DESKS = '''
+>>> from splicedfilms.boxes import Box
+>>> from splicedfilms.desks import Desk
+>>> desk = Desk(Box(["abc", "abc"], [("b", "c", "a", "b")]))
+>>> [desk.can(), desk(0, 0, 2, 0, 1), desk.films(), len(desk.can()), desk(0, 0, 2, 0, 1), desk.tree_of(1), desk.undo(), len(desk), desk.undo(), len(desk)]
+[[(0, 0, 2, 0, 1)], 1, ['abc', 'abbc'], 3, 1, ('splice', 0, 2, 1, ('strip', 0), ('strip', 0)), None, 2, None, 1]
+>>> [desk.follow(("splice", 0, 2, 1, ("strip", 0), ("splice", 0, 2, 1, ("strip", 0), ("strip", 0)))), desk.films(), desk.now().strips, desk.lies("abbbc"), desk.undo(), len(desk)]
+[2, ['abc', 'abbc', 'abbbc'], ['abc', 'abbc', 'abbbc'], True, None, 1]
+'''
+
+READINGS = '''
+>>> from splicedfilms.boxes import Box
+>>> from splicedfilms.readings import read_box, read_tree
+>>> from splicedfilms.texts import show_box, show_tree
+>>> box = Box(["abc", "d"], [("b", "c", "", "ab"), ("d", "", "a", "b")])
+>>> told = ("splice", 0, 2, 0, ("strip", 0), ("splice", 1, 1, 1, ("strip", 1), ("strip", 0)))
+>>> [show_box(box), read_box(show_box(box)) == box, show_box(Box([], [])), show_tree(told), read_tree(show_tree(told)) == told]
+['abc, d; b|c |ab; d| a|b', True, '', 'rule 0 2 0 (strip 0) (rule 1 1 1 (strip 1) (strip 0))', True]
+'''
+
 
 class Examples(unittest.TestCase):
     def check(self, text, number):
@@ -128,6 +156,15 @@ class Examples(unittest.TestCase):
 
     def test_origins(self):
         self.check(ORIGINS, 5)
+
+    def test_guesses(self):
+        self.check(GUESSES, 4)
+
+    def test_desks(self):
+        self.check(DESKS, 5)
+
+    def test_texts_and_readings(self):
+        self.check(READINGS, 6)
 
 
 if __name__ == "__main__":

@@ -39,11 +39,21 @@ FUNCTIONS = {
         "broken": ["told", "rule"], "kept_rules": ["told", "size"], "greatest_box": ["told", "length", "size"],
         "unmade": ["told", "length", "size"],
     },
+    "guesses": {
+        "fitting": ["box", "menu", "seen", "unseen"], "telling": ["box", "menu", "seen", "unseen"],
+    },
+    "texts": {"show_box": ["box"], "show_tree": ["told"]},
+    "readings": {"read_box": ["text"], "read_tree": ["text"]},
 }
-METHODS = {
+BOX = {
     "__init__": ["self", "strips", "rules"], "pictures": ["self"], "with_strip": ["self", "strip"],
     "with_rule": ["self", "rule"], "without_strip": ["self", "index"], "without_rule": ["self", "index"],
     "__add__": ["self", "other"], "__len__": ["self"], "__eq__": ["self", "other"],
+}
+DESK = {
+    "__init__": ["self", "box"], "__call__": ["self", "index", "film", "cut", "other", "place"], "films": ["self"],
+    "tree_of": ["self", "film"], "now": ["self"], "follow": ["self", "told"], "lies": ["self", "film"], "can": ["self"],
+    "undo": ["self"], "__len__": ["self"], "__eq__": ["self", "other"],
 }
 
 
@@ -63,13 +73,20 @@ class Interface(unittest.TestCase):
             for function, arguments in functions.items():
                 self.check(getattr(module, function), module.__name__, arguments)
 
+    def check_class(self, thing, module, methods):
+        self.assertEqual(thing.__module__, module.__name__)
+        for method, arguments in methods.items():
+            self.check(vars(thing)[method], module.__name__, arguments)
+
     def test_the_class_of_boxes(self):
         module = importlib.import_module("splicedfilms.boxes")
-        self.assertEqual(module.Box.__module__, module.__name__)
-        for method, arguments in METHODS.items():
-            self.check(vars(module.Box)[method], module.__name__, arguments)
+        self.check_class(module.Box, module, BOX)
         for name in ("strips", "rules"):
             self.assertIsInstance(vars(module.Box)[name], property)
+
+    def test_the_class_of_desks(self):
+        module = importlib.import_module("splicedfilms.desks")
+        self.check_class(module.Desk, module, DESK)
 
 
 if __name__ == "__main__":
