@@ -2,8 +2,7 @@
 
 from splicedfilms.checks import check_film, check_rule
 from splicedfilms.errors import NoSplice, UnknownRule, UnknownStrip
-from splicedfilms.states import table_of_web
-from splicedfilms.webs import Web
+from splicedfilms.workings import Workings
 
 
 class Box:
@@ -16,8 +15,7 @@ class Box:
             check_rule(rule)
         self._strips = list(strips)
         self._rules = list(rules)
-        self._web = None
-        self._table = None
+        self._workings = Workings(self._strips, self._rules)
 
     @property
     def strips(self):
@@ -31,8 +29,7 @@ class Box:
 
     def pictures(self):
         """Return the text of the unlike pictures of the strips and rules, ascending."""
-        pieces = self._strips + ["".join(rule) for rule in self._rules]
-        return "".join(sorted(set("".join(pieces))))
+        return self._workings.pictures()
 
     def with_strip(self, strip):
         """Return the box with one more strip at the end."""
@@ -54,17 +51,9 @@ class Box:
             raise UnknownRule(index)
         return Box(self._strips, self._rules[:index] + self._rules[index + 1:])
 
-    def web(self):
-        """Return the web of the box; it is kept, as it is dear to make and a box never changes."""
-        if self._web is None:
-            self._web = Web(self._strips, self._rules)
-        return self._web
-
-    def kept_table(self):
-        """Return the table of the box, kept like its web: it is only read, and no caller of the program gets it."""
-        if self._table is None:
-            self._table = table_of_web(self.web(), self.pictures())
-        return self._table
+    def workings(self):
+        """Return what the program works out of the box."""
+        return self._workings
 
     def __add__(self, other):
         if not isinstance(other, Box):
@@ -83,6 +72,11 @@ def spliced(rule, film, cut, other, place):
     check_rule(rule)
     check_film(film)
     check_film(other)
+    return splice_of_films(rule, film, cut, other, place)
+
+
+def splice_of_films(rule, film, cut, other, place):
+    """Return what `spliced` does, of a rule and films that are checked already."""
     if not _stand_at(rule[0], rule[1], film, cut):
         raise NoSplice(cut)
     if not _stand_at(rule[2], rule[3], other, place):
@@ -112,4 +106,4 @@ def _stand_at(left, right, film, cut):
     # A cut below 0 would be read as one from the end.
     if not 0 <= cut <= len(film):
         return False
-    return film[:cut].endswith(left) and film[cut:].startswith(right)
+    return film.endswith(left, 0, cut) and film.startswith(right, cut)

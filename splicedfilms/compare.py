@@ -1,7 +1,7 @@
 """Which films come about by one box and not by another one, and which strips and rules a box needs."""
 
+from splicedfilms.boxes import Box
 from splicedfilms.films import comes
-from splicedfilms.parts import least_parts
 from splicedfilms.searches import FIRST_ALONE, JUST_ONE, first_of_two
 
 
@@ -12,12 +12,12 @@ def alike(one, other):
 
 def first_unlike(one, other):
     """Return the first film that comes about by just one of two boxes, `None` if there is none."""
-    return first_of_two(one.kept_table(), other.kept_table(), JUST_ONE)
+    return first_of_two(one.workings().table(), other.workings().table(), JUST_ONE)
 
 
 def first_more(one, other):
     """Return the first film that comes about by the one box and not by the other one, `None` if there is none."""
-    return first_of_two(one.kept_table(), other.kept_table(), FIRST_ALONE)
+    return first_of_two(one.workings().table(), other.workings().table(), FIRST_ALONE)
 
 
 def needless_rules(box):
@@ -33,7 +33,14 @@ def needless_strips(box):
 
 def least_boxes(box):
     """Return all (strips, rules), two ascending lists, of which, and of no part of which, the same films come about."""
-    return least_parts(box, lambda lesser: alike(box, lesser))
+    strips, rules = box.strips, box.rules
+    parts = box.workings().parts()
+
+    def is_alike(part):
+        some, others = parts.indexes(part)
+        return alike(box, Box([strips[at] for at in some], [rules[at] for at in others]))
+
+    return parts.least(is_alike)
 
 
 def brings(box, rule):

@@ -1,6 +1,6 @@
 """Cutting desks, led splice by splice."""
 
-from splicedfilms.boxes import Box, cuts, places, spliced
+from splicedfilms.boxes import Box, cuts, places, splice_of_films
 from splicedfilms.checks import check_film
 from splicedfilms.errors import NothingToUndo, UnknownRule, UnknownStrip
 from splicedfilms.films import film_of
@@ -19,9 +19,9 @@ class Desk:
         # By the calls that may be taken back: how many films lay there ahead of them.
         self._calls = []
         for index, strip in enumerate(box.strips):
-            self._lay(strip, ("strip", index))
+            self._put(strip, ("strip", index))
 
-    def _lay(self, film, told):
+    def _put(self, film, told):
         if film not in self._numbers:
             self._numbers[film] = len(self._films)
             self._films.append(film)
@@ -41,8 +41,8 @@ class Desk:
             raise UnknownRule(index)
         self._check_number(film)
         self._check_number(other)
-        made = spliced(rules[index], self._films[film], cut, self._films[other], place)
-        return self._lay(made, ("splice", index, cut, place, self._trees[film], self._trees[other]))
+        made = splice_of_films(rules[index], self._films[film], cut, self._films[other], place)
+        return self._put(made, ("splice", index, cut, place, self._trees[film], self._trees[other]))
 
     def _check_number(self, film):
         if not 0 <= film < len(self._films):

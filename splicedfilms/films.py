@@ -1,49 +1,22 @@
 """Which films come about by a box, and the trees that tell how."""
 
-from splicedfilms.boxes import cuts, places, spliced
+from splicedfilms.boxes import cuts, places, splice_of_films
 from splicedfilms.checks import check_film, check_number
 from splicedfilms.errors import NoSplice, UnknownRule, UnknownStrip
 from splicedfilms.trees import fold
-from splicedfilms.webs import reads, seam_plans
 
 
 def comes(box, film):
     """Tell whether a film comes about by a box."""
     check_film(film)
-    return reads(box.web(), film)
+    return box.workings().web().reads(film)
 
 
 def tree(box, film):
     """Return a tree of fewest splices by which a film comes about, `None` if it does not."""
-    check_film(film)
-    if not reads(box.web(), film):
+    if not comes(box, film):
         return None
-    return _tree_of_plans(box.strips, _last_splices(box, film), film)
-
-
-def _last_splices(box, film):
-    # {film: (cost, index, cut, place, first, second)} of all films of a cheapest tree that are no strips.
-    web, rules, strips = box.web(), box.rules, box.strips
-    found = {}
-    todo = [film]
-    while todo:
-        part = todo.pop()
-        if part not in strips and part not in found:
-            plans = seam_plans(web, rules, part)
-            index, cut = min(plans, key=lambda seam: plans[seam][0])
-            cost, first, second, place = plans[(index, cut)]
-            found[part] = (cost, index, cut, place, first, second)
-            todo.extend([first, second])
-    return found
-
-
-def _tree_of_plans(strips, found, film):
-    told = {strip: ("strip", strips.index(strip)) for strip in strips}
-    # Both films of a splice cost less than it, so their trees are there when they are asked for.
-    for _, part in sorted([(found[part][0], part) for part in found]):
-        _, index, cut, place, first, second = found[part]
-        told[part] = ("splice", index, cut, place, told[first], told[second])
-    return told[film]
+    return box.workings().routes().tree(film)
 
 
 def film_of(box, told):
@@ -59,7 +32,7 @@ def film_of(box, told):
         index, cut, place = numbers
         if not 0 <= index < len(rules):
             raise UnknownRule(index)
-        return spliced(rules[index], film, cut, other, place)
+        return splice_of_films(rules[index], film, cut, other, place)
 
     return fold(told, strip_of, splice_of)
 

@@ -10,7 +10,7 @@ from splicedfilms.states import hopeful, lead
 def is_joint(box, piece):
     """Tell whether a piece is a joint."""
     _check_joint(piece)
-    return _joins(box.kept_table(), piece)
+    return _joins(box.workings().table(), piece)
 
 
 def _check_joint(piece):
@@ -36,7 +36,7 @@ def torn(box, piece):
     If there is none, return `None`.
     """
     _check_joint(piece)
-    told = box.kept_table()
+    told = box.workings().table()
     behind = _states_behind(told, piece)
     firsts = [lead(told, state, piece) for state in range(len(told[1]))]
     pairs = [[(first, second) for second in behind] if first in behind else [] for first in firsts]
@@ -46,7 +46,7 @@ def torn(box, piece):
 def joints(box, length):
     """Return the ascending list of the pieces of a length that stand in some film and are joints."""
     check_number(length, 1)
-    return [piece for piece in pieces(box, length) if _joins(box.kept_table(), piece)]
+    return [piece for piece in pieces(box, length) if _joins(box.workings().table(), piece)]
 
 
 def looks_back(box):
@@ -54,7 +54,7 @@ def looks_back(box):
 
     If there is no such number, return `None`.
     """
-    told = box.kept_table()
+    told = box.workings().table()
     hopes = hopeful(told)
     # A piece is no joint exactly if it leads two states to two unlike ones, all along with films that go on.
     pairs = {(low, high): True for low in hopes for high in hopes if low < high}

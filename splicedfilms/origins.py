@@ -57,4 +57,4 @@ def greatest_box(told, length, size):
 def unmade(told, length, size):
     """Return the first film of a table that does not come about by its greatest box, `None` if there is none."""
     greatest = greatest_box(told, length, size)
-    return first_of_two(without_empty(told), greatest.kept_table(), FIRST_ALONE)
+    return first_of_two(without_empty(told), greatest.workings().table(), FIRST_ALONE)

@@ -9,24 +9,24 @@ from splicedfilms.states import holds_text, hopeful, lead, table_of_piece
 def number(box, length):
     """Return how many films have a length."""
     check_number(length, 0)
-    return counts_to(box.kept_table(), length)[length][0]
+    return counts_to(box.workings().table(), length)[length][0]
 
 
 def number_rest(box, length, modulus):
     """Return the rest, by a modulus, of the number of the films that have a length."""
     check_number(length, 0)
     check_number(modulus, 1)
-    return count_rest(box.kept_table(), length, modulus)
+    return count_rest(box.workings().table(), length, modulus)
 
 
 def is_endless(box):
     """Tell whether there are endless many films."""
-    return lengths_end(box.kept_table()) is None
+    return lengths_end(box.workings().table()) is None
 
 
 def how_many(box):
     """Return how many films there are, `None` if there are endless many."""
-    told = box.kept_table()
+    told = box.workings().table()
     end = lengths_end(told)
     if end is None:
         return None
@@ -41,35 +41,35 @@ def shortest(box):
 
 def longest(box):
     """Return the ascending list of the longest films, `None` if there are endless many."""
-    end = lengths_end(box.kept_table())
+    end = lengths_end(box.workings().table())
     if end is None:
         return None
     return [] if end == 0 else _films_long(box, end - 1)
 
 
 def _films_long(box, length):
-    told = box.kept_table()
+    told = box.workings().table()
     return texts_between(told, [0], told[2], length)
 
 
 def some_have(box, piece):
     """Return the first film that has a piece, `None` if none has."""
     check_piece(piece)
-    told = box.kept_table()
+    told = box.workings().table()
     return first_of_two(told, table_of_piece(piece, told[0]), BOTH)
 
 
 def all_have(box, piece):
     """Return the first film that has not a piece, `None` if all have."""
     check_piece(piece)
-    told = box.kept_table()
+    told = box.workings().table()
     return first_of_two(told, table_of_piece(piece, told[0]), FIRST_ALONE)
 
 
 def pieces(box, length):
     """Return the ascending list of the pieces of a length that stand in some film."""
     check_number(length, 0)
-    told = box.kept_table()
+    told = box.workings().table()
     hopes = hopeful(told)
     return texts_between(told, hopes, hopes, length)
 
@@ -77,14 +77,14 @@ def pieces(box, length):
 def beginnings(box, length):
     """Return the ascending list of the pieces of a length with which some film begins."""
     check_number(length, 0)
-    told = box.kept_table()
+    told = box.workings().table()
     return texts_between(told, [0], hopeful(told), length)
 
 
 def endings(box, length):
     """Return the ascending list of the pieces of a length with which some film ends."""
     check_number(length, 0)
-    told = box.kept_table()
+    told = box.workings().table()
     return texts_between(told, hopeful(told), told[2], length)
 
 
@@ -113,7 +113,7 @@ def exchanged(box, piece, other):
     """Return the first film x + piece + y for which x + other + y does not come about, `None` if there is none."""
     check_piece(piece)
     check_piece(other)
-    told = box.kept_table()
+    told = box.workings().table()
     pairs = [[(lead(told, state, piece), lead(told, state, other))] for state in range(len(told[1]))]
     return first_over_bridge(told, piece, pairs, (True, False))
 
@@ -121,7 +121,7 @@ def exchanged(box, piece, other):
 def rank(box, film):
     """Return how many films are ahead of a film in their order, `None` if it does not come about."""
     check_film(film)
-    told = box.kept_table()
+    told = box.workings().table()
     if not holds_text(told, film):
         return None
     counts = counts_to(told, len(film))
@@ -140,7 +140,7 @@ def film_at(box, index):
     most = how_many(box)
     if most is not None and index >= most:
         return None
-    told = box.kept_table()
+    told = box.workings().table()
     counts = [counts_of_ends(told)]
     while counts[-1][0] <= index:
         index -= counts[-1][0]

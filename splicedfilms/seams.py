@@ -2,35 +2,35 @@
 
 from splicedfilms.checks import check_film
 from splicedfilms.errors import NoSplice, UnknownRule
-from splicedfilms.films import comes, tree, within
-from splicedfilms.parts import least_parts
+from splicedfilms.films import comes, within
 from splicedfilms.questions import film_at, rank
-from splicedfilms.webs import seam_plans
 
 
 def seams(box, film):
     """Return the ascending list of the (index, at) of all splices with which some tree of a film ends."""
     check_film(film)
-    return sorted(seam_plans(box.web(), box.rules, film))
+    return box.workings().web().seams(box.rules, film)
 
 
 def tree_at(box, film, index, at):
     """Return a tree of a film with this last splice, of as few splices as can be."""
     check_film(film)
-    rules = box.rules
-    if not 0 <= index < len(rules):
+    if not 0 <= index < len(box):
         raise UnknownRule(index)
-    plans = seam_plans(box.web(), rules, film)
-    if (index, at) not in plans:
+    told = box.workings().routes().tree_over(film, index, at)
+    if told is None:
         raise NoSplice(at)
-    _, first, second, place = plans[(index, at)]
-    return "splice", index, at, place, tree(box, first), tree(box, second)
+    return told
 
 
 def reasons(box, film):
     """Return the list of all (strips, rules) by which alone a film comes about, and by no part of which it does."""
     check_film(film)
-    return least_parts(box, lambda lesser: comes(lesser, film))
+    if not comes(box, film):
+        return []
+    net = box.workings().lots()
+    lot = net.joined(net.read_on(net.begun, film)[-1], net.ended)
+    return box.workings().parts().least(lambda part: lot >> part & 1 == 1)
 
 
 def beyond(box, most):

@@ -87,24 +87,19 @@ def _kinds(told, order):
 
 def table_of_web(web, pictures):
     """Return the least table of the texts that are read in a web."""
-    # A state is the row of the spots at which ways stand, but for those from which no way leads to an end.
-    numbers = {}
-    ways = []
+    # A state is the spots at which ways stand, but for those from which no way leads to an end.
+    numbers = {web.firsts: 0}
+    states = [web.firsts]
     rows = []
-    _number_of(web.begun(), web, numbers, ways)
-    while len(rows) < len(ways):
-        now = ways[len(rows)]
-        rows.append([_number_of(web.forth(now, picture), web, numbers, ways) for picture in pictures])
-    ends = [numbers[spots] for spots in numbers if any([spot in web.lasts for spot in spots])]
-    return least_table((pictures, rows, ends))
-
-
-def _number_of(now, web, numbers, ways):
-    spots = tuple([spot for spot in sorted(now) if spot in web.after])
-    if spots not in numbers:
-        numbers[spots] = len(ways)
-        ways.append(now)
-    return numbers[spots]
+    while len(rows) < len(states):
+        spots = states[len(rows)]
+        row = [web.forth(spots, picture) & web.after for picture in pictures]
+        for after in row:
+            if after not in numbers:
+                numbers[after] = len(states)
+                states.append(after)
+        rows.append([numbers[after] for after in row])
+    return least_table((pictures, rows, [number for number, spots in enumerate(states) if spots & web.lasts]))
 
 
 def table_of_piece(piece, pictures):

@@ -8,7 +8,7 @@ from splicedfilms.states import holds_text, least_table
 
 def table(box):
     """Return the table of a box."""
-    return copied(box.kept_table())
+    return copied(box.workings().table())
 
 
 def holds(told, film):
@@ -29,7 +29,7 @@ def is_closed(box, told):
 def judge_table(box, told):
     """Tell whether a table holds just what comes about by a box, and not the empty text."""
     check_table(told)
-    return first_of_two(box.kept_table(), told, JUST_ONE) is None
+    return first_of_two(box.workings().table(), told, JUST_ONE) is None
 
 
 def apart(one, other):

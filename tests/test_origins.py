@@ -8,11 +8,13 @@ import unittest
 from cases import Case, WRONG_TEXTS, spoil
 from naive import boxes_by_chance, in_order, is_told, sites, table_by_chance, texts
 from samples import FEW, MANY, NO_TABLES, WRONG_RULES
+from splicedfilms import compare, fewest, films, joints, questions, readings, seams
 from splicedfilms.boxes import Box
-from splicedfilms.errors import InvalidNumber, InvalidPiece
+from splicedfilms.errors import InvalidNumber, InvalidPiece, NoSplice
 from splicedfilms.films import comes
 from splicedfilms.origins import broken, greatest_box, kept_rules, unmade
 from splicedfilms.tables import apart, holds, is_closed, judge_table, table
+from splicedfilms.texts import show_box
 
 BEES = ("ab", [[1, 2], [2, 3], [2, 2], [2, 3]], [3])
 ALL = ("ab", [[0, 0]], [0])
@@ -35,15 +37,24 @@ def held(told, length):
 def broken_by_films(told, rule, length):
     """Return the splices of films of at most a length that a table holds, such as it does not hold, in their order."""
     front, behind, ahead, back = rule
-    films = held(told, length)
-    beginnings = {film[:cut] for film in films for cut in sites(front, behind, film)}
-    ends = {film[cut:] for film in films for cut in sites(ahead, back, film)}
+    known = held(told, length)
+    beginnings = {film[:cut] for film in known for cut in sites(front, behind, film)}
+    ends = {film[cut:] for film in known for cut in sites(ahead, back, film)}
     return in_order({one + other for one in beginnings for other in ends if not is_told(told, one + other)})
 
 
 def tables_by_chance(seed, number):
     chance = random.Random(seed)
     return [table_by_chance(chance, chance.choice(["", "a", "b", "ab", "ab", "ac", "bd"]), 4) for _ in range(number)]
+
+
+def least_of(parts):
+    """Return the parts of which no other one is a part, by their sizes, then as tuples."""
+    least = [
+        one for one in parts
+        if not any(other != one and set(other[0]) <= set(one[0]) and set(other[1]) <= set(one[1]) for other in parts)
+    ]
+    return sorted(least, key=lambda part: (len(part[0]) + len(part[1]), part))
 
 
 class Broken(Case):
@@ -209,6 +220,40 @@ class GreatestBox(Case):
             self.assertIs(judge_table(box, made), True)
             self.assertIs(is_closed(box, made), True)
             self.assertIs(judge_table(box, told), unmade(told, 4, 1) is None and not is_told(told, ""))
+
+    def test_the_greatest_of_all_boxes(self):
+        box = greatest_box(ALL, 4, 1)
+        self.assertEqual(table(box), ("ab", [[1, 1], [1, 1]], [1]))
+        self.assertEqual([questions.number(box, length) for length in (0, 1, 24)], [0, 2, 2 ** 24])
+        self.assertEqual((questions.is_endless(box), questions.film_at(box, 29), questions.rank(box, "aaaaa")), (True, "bbbb", 30))
+        self.assertEqual((joints.looks_back(box), joints.joints(box, 1), joints.torn(box, "ab")), (1, ["a", "b"], None))
+        self.assertEqual((compare.needless_rules(box), compare.needless_strips(box)), (list(range(36)), list(range(2, 30))))
+        self.assertIsNone(compare.brings(box, ("aa", "b", "", "b")))
+        self.assertIs(compare.alike(box, Box(["a", "b"], [(x, "", "", y) for x in "ab" for y in "ab"])), True)
+        film = "ab" * 12
+        told = films.tree(box, film)
+        self.assertEqual((films.film_of(box, told), films.splices(told), fewest.fewest(box, film)), (film, 5, 5))
+        self.assertEqual((fewest.fewest_with(box, "a" * 9), fewest.fewest_long(box, 60)), (2, 14))
+        self.assertEqual((seams.beyond(box, 0), seams.seams(box, "a"), len(seams.seams(box, "ab"))), ("aaaaa", [], 9))
+        self.assert_error(NoSplice, 23, seams.tree_at, box, film, 0, 23)
+        self.assertEqual(films.film_of(box, seams.tree_at(box, film, *seams.seams(box, film)[0])), film)
+        self.assertEqual((show_box(box).count("; "), readings.read_box(show_box(box))), (36, box))
+
+    def test_parts_of_greatest_boxes_of_one_picture(self):
+        for told in (("a", [[0]], [0]), ("a", [[1], [0]], [1]), ("a", [[1], [2], [3], [3]], [2, 3])):
+            box = greatest_box(told, 4, 1)
+            strips, rules = box.strips, box.rules
+            parts = [
+                (list(some), list(others))
+                for many in range(len(strips) + 1) for some in itertools.combinations(range(len(strips)), many)
+                for more in range(len(rules) + 1) for others in itertools.combinations(range(len(rules)), more)
+            ]
+            lesser = [Box([strips[at] for at in some], [rules[at] for at in others]) for some, others in parts]
+            expected = least_of([part for part, made in zip(parts, lesser) if compare.alike(box, made)])
+            self.assertEqual(compare.least_boxes(box), expected)
+            for film in ("a", "aaa", "aaaaa", "a" * 24):
+                expected = least_of([part for part, made in zip(parts, lesser) if comes(made, film)])
+                self.assertEqual(seams.reasons(box, film), expected)
 
 
 class Unmade(Case):
